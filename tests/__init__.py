@@ -1,0 +1,1 @@
+"""The tests of watchfloor; see README.md for how to run them."""

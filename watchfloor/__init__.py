@@ -1,0 +1,1 @@
+"""Watchfloor: from samples to somebody who answers."""
