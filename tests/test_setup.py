@@ -393,6 +393,10 @@ class GroupsTest(SetupTest):
             self.rules([(kind, "r", UP, labels) + rest for labels in good],
                        *[(kind, "r", UP, labels) + rest for labels in bad])
 
+    def test_words(self):
+        self.rules([RECORD, ALERT], ("watch", "r", UP, ()), ("watch", "r", UP, (), 0, 0), ("alert", "r", UP, ()),
+                   ("record", "r", UP, (), 0, 0))
+
     def test_hold_and_keep(self):
         self.rules([("alert", "r", UP, (), 0, 1000), ("alert", "r", UP, (), 1000, 0)],
                    ("alert", "r", UP, (), -1, 0), ("alert", "r", UP, (), 1001, 0), ("alert", "r", UP, (), 0, -1),

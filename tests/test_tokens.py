@@ -35,6 +35,11 @@ class KindsTest(TokensTest):
         self.gives([("word", "z" + WORD_CHARACTERS[20:], 0)], tokens, "z" + WORD_CHARACTERS[20:])
         self.gives([("word", "sum", 0), ("word", "or", 4), ("word", "metric", 7)], tokens, "sum or metric")
 
+    def test_each_letter_begins_a_word(self):
+        for letter in WORD_CHARACTERS[:26]:
+            self.gives([("word", letter, 0)], tokens, letter)
+            self.gives([("number", 5, 0), ("word", letter, 2), ("word", letter, 4)], tokens, "5 " + letter + " " + letter)
+
     def test_numbers(self):
         self.gives([("number", 0, 0)], tokens, "0")
         self.gives([("number", 1234567890, 0)], tokens, "1234567890")

@@ -5,6 +5,7 @@ from watchfloor.matching import is_labels, is_matcher, is_name
 from watchfloor.samples import LAST_TIME
 
 RESERVED = "zzzzzzzzzzzzzzzzzzzz"
+TIMES_OF_RULES = {"record": 0, "alert": 2}
 
 
 def is_duration(number):
@@ -122,8 +123,7 @@ def is_rule(rule):
     if any(pair[0] in ("metric", "alert", RESERVED) for pair in labels):
         return False
     times = rule[4:]
-    many = 2 if word == "alert" else 0
-    return word in ("record", "alert") and len(times) == many and all(is_duration(time) for time in times)
+    return len(times) == TIMES_OF_RULES.get(word) and all(is_duration(time) for time in times)
 
 
 def is_store(store):
