@@ -21,6 +21,27 @@ FUNCTIONS = {
     "steps": {"steps_of": 1, "from_steps": 1},
     "windows": {"is_read": 5, "windows": 5, "over": 2},
     "vectors": {"binary": 3, "aggregate": 3},
+    "values": {"value_at": 4, "values_between": 6},
+    "reading": {"reach": 2, "affected": 3, "samples_read": 4, "samples_for": 5},
+    "numbers": {
+        "put_number": 1, "put_integer": 1, "put_text": 1, "put_labels": 1,
+        "take_number": 2, "take_integer": 2, "take_text": 2, "take_labels": 2,
+    },
+    "blocks": {"put_block": 1, "take_block": 1, "block_of": 3, "samples_of": 1},
+    "logs": {"put_batch": 1, "put_log": 1, "take_log": 1},
+    "opening": {"stages": 2, "crashed": 1},
+    "timing": {"is_due": 3, "next_due": 3, "due_times": 4, "least_delay": 2, "greatest_delay": 3},
+    "alerting": {"step": 5, "times_of": 3, "alert_labels": 3, "record_labels": 3},
+    "evaluating": {"test_rules": 4},
+    "routes": {"way": 2, "end_of": 2, "refusals": 2, "group_of": 2, "holds_back": 3},
+    "surveys": {"sample_alerts": 1, "survey": 2, "difference": 3},
+}
+CLASSES = {
+    ("stores", "Store"): (4, {
+        "append": 1, "sync": 0, "seal": 0, "compact": 0, "retain": 1, "view": 0, "blocks": 0, "batches": 0, "disk": 0,
+        "twin": 0,
+    }),
+    ("evaluating", "Evaluator"): (1, {"evaluate": 3, "firing": 0, "alerts": 2, "twin": 0}),
 }
 PARTS = {
     "week": inspect.Parameter.empty, "people": inspect.Parameter.empty, "schedules": inspect.Parameter.empty,
@@ -38,11 +59,42 @@ class InterfaceTest(unittest.TestCase):
                 function = getattr(found, name)
                 self.assertTrue(inspect.isfunction(function), name)
                 self.assertEqual(function.__module__, found.__name__, name)
-                inspect.signature(function).bind(*range(many))
-                with self.assertRaises(TypeError):
-                    inspect.signature(function).bind(*range(many - 1))
-                with self.assertRaises(TypeError):
-                    inspect.signature(function).bind(*range(many + 1))
+                self.takes(function, many)
+
+    def takes(self, function, many):
+        """Check that a function takes so many arguments by position, no more and no less."""
+        signature = inspect.signature(function)
+        signature.bind(*range(many))
+        self.assertRaises(TypeError, signature.bind, *range(many + 1))
+        if many > 0:
+            self.assertRaises(TypeError, signature.bind, *range(many - 1))
+
+    def test_classes_define_their_methods_themselves(self):
+        for (module, name), (many, methods) in CLASSES.items():
+            found = getattr(importlib.import_module("watchfloor." + module), name)
+            self.assertTrue(inspect.isclass(found), name)
+            self.assertEqual(found.__module__, "watchfloor." + module, name)
+            self.takes(found, many)
+            for method in methods:
+                self.assertTrue(inspect.isfunction(vars(found).get(method)), (name, method))
+                self.takes(vars(found)[method], 1 + methods[method])
+
+    def test_store_has_properties(self):
+        found = importlib.import_module("watchfloor.stores").Store
+        for name in ("floor", "closed", "synced"):
+            self.assertIsInstance(vars(found).get(name), property)
+
+    def test_open_store_takes_its_disk_by_keyword(self):
+        function = importlib.import_module("watchfloor.opening").open_store
+        self.assertTrue(inspect.isfunction(function))
+        self.assertEqual(function.__module__, "watchfloor.opening")
+        parameters = inspect.signature(function).parameters
+        self.assertEqual(len(parameters), 7)
+        self.assertEqual(list(parameters)[4:], ["floor", "blocks", "log"])
+        for name in list(parameters)[4:]:
+            self.assertEqual(parameters[name].kind, inspect.Parameter.KEYWORD_ONLY)
+        self.assertRaises(TypeError, inspect.signature(function).bind, 0, 10, 2, 0)
+        inspect.signature(function).bind(0, 10, 2, 0, floor=0, blocks=[], log=[])
 
     def test_setup_takes_its_arguments_by_keyword(self):
         found = importlib.import_module("watchfloor.setup")

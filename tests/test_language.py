@@ -106,14 +106,35 @@ class NamesTest(unittest.TestCase):
                     if isinstance(node.value, str):
                         self.assertNotIn("%", node.value, path)
                 if isinstance(node, (ast.FunctionDef, ast.ClassDef)):
-                    self.assertEqual(node.decorator_list, [], path)
+                    self.assertIn([ast.unparse(one) for one in node.decorator_list], ([], ["property"]), path)
+
+    def test_properties(self):
+        """Those of classes alone; they call nothing but builtins, and no method or attribute has their name."""
+        methods, properties, attributes = [], [], []
+        for path, tree in trees():
+            found = [one for node in tree.body if isinstance(node, ast.ClassDef) for one in node.body
+                     if isinstance(one, ast.FunctionDef)]
+            mine = [one for one in found if one.decorator_list]
+            decorated = [node for node in ast.walk(tree) if isinstance(node, ast.FunctionDef) and node.decorator_list]
+            self.assertEqual(len(mine), len(decorated), path)
+            for one in mine:
+                calls = [node.func for node in ast.walk(one) if isinstance(node, ast.Call)]
+                self.assertTrue(all(isinstance(call, ast.Name) and call.id in ALLOWED_BUILTINS for call in calls), one.name)
+                places = [node for node in ast.walk(one) if isinstance(node, (ast.Attribute, ast.Subscript))]
+                self.assertTrue(all(isinstance(place.ctx, ast.Load) for place in places), one.name)
+            properties += [one.name for one in mine]
+            methods += [one.name for one in found if not one.decorator_list]
+            attributes += [node.attr for node in ast.walk(tree)
+                           if isinstance(node, ast.Attribute) and isinstance(node.ctx, ast.Store)]
+        self.assertEqual(len(properties), len(set(properties)))
+        self.assertFalse(set(properties) & set(methods + attributes))
 
     def test_builtins(self):
         """Only those that are allowed are used, and no name of the package's own hides one."""
         for path, tree in trees():
             for node in ast.walk(tree):
                 if isinstance(node, ast.Name) and node.id in vars(builtins):
-                    self.assertIn(node.id, ALLOWED_BUILTINS, path)
+                    self.assertIn(node.id, ALLOWED_BUILTINS + ["property"], path)
                     self.assertIsInstance(node.ctx, ast.Load, path)
                 if isinstance(node, (ast.FunctionDef, ast.ClassDef)):
                     self.assertNotIn(node.name, vars(builtins), (path, node.name))
