@@ -35,6 +35,22 @@ FUNCTIONS = {
     "evaluating": {"test_rules": 4},
     "routes": {"way": 2, "end_of": 2, "refusals": 2, "group_of": 2, "holds_back": 3},
     "surveys": {"sample_alerts": 1, "survey": 2, "difference": 3},
+    "calendars": {
+        "in_spans": 3, "on_layer": 3, "on_call": 3, "next_break": 3, "settled": 1, "period": 2, "stretches": 4, "duties": 4,
+    },
+    "alltimes": {"first_gap": 3, "ever_on_call": 3, "cycle": 2, "first_difference": 4},
+    "escalation": {
+        "is_muted": 3, "unmuted_from": 3, "longest_mute": 3, "is_sure": 2, "plan": 3, "delay": 3, "policy_gap": 3,
+        "worst_delay": 3,
+    },
+    "paging": {"runs_of": 3, "is_silenced": 3, "is_held": 4, "due": 3, "worker_for": 4},
+    "forcing": {"slack": 1, "is_forced": 5, "can_fail": 4, "can_precede": 4, "can_begin": 5, "can_follow": 4},
+    "gaps": {"failing": 4, "gap": 4, "gap_between": 5, "least_limit": 5},
+    "scripts": {"rehearsal": 4},
+    "sure": {"sure_limit": 3},
+    "journal": {"line_of": 1, "journal": 1, "replay": 2},
+    "lines": {"words_of": 1, "check_words": 1},
+    "configuration": {"problems_of": 1, "read_setup": 1, "write_setup": 1},
 }
 CLASSES = {
     ("stores", "Store"): (4, {
@@ -42,6 +58,14 @@ CLASSES = {
         "twin": 0,
     }),
     ("evaluating", "Evaluator"): (1, {"evaluate": 3, "firing": 0, "alerts": 2, "twin": 0}),
+    ("pager", "Pager"): (1, {
+        "tick": 3, "silence": 3, "stand_in": 4, "acknowledge": 2, "time": 0, "runs": 0, "reached": 0, "held": 0, "ledger": 0,
+        "plans": 0, "on_call": 1,
+    }),
+    ("floor", "Floor"): (1, {
+        "take": 1, "tick": 3, "sync": 0, "seal": 0, "compact": 0, "retain": 1, "crash": 0, "silence": 3, "stand_in": 4,
+        "acknowledge": 2, "time": 0, "view": 0, "firing": 0, "pager": 0, "deeds": 0,
+    }),
 }
 PARTS = {
     "week": inspect.Parameter.empty, "people": inspect.Parameter.empty, "schedules": inspect.Parameter.empty,

@@ -15,6 +15,7 @@ BARRED_NODES = (
     ast.Global, ast.AsyncFunctionDef, ast.Await, ast.Yield, ast.YieldFrom, ast.Import, ast.Div, ast.Starred,
     ast.AnnAssign, ast.NamedExpr, ast.Match, ast.With, ast.TryStar,
 )
+LIBRARY = {"math": ["gcd", "lcm", "isqrt", "comb", "perm", "factorial"]}
 BARRED_NAMES = "register mro elements open input law version_info with_traceback add_note id dir help exit os sys".split()
 
 
@@ -74,10 +75,20 @@ class ImportsTest(unittest.TestCase):
             names += [node.targets[0].id for node in tree.body if isinstance(node, ast.Assign)]
             self.assertEqual(len(names), len(set(names)), path)
             defined["watchfloor." + path.stem] = names
+        defined.update(LIBRARY)
         for module, names in self.imports().items():
             for name in names:
                 self.assertIn(name, defined[names[name]], module)
                 self.assertNotIn(name, defined[module], module)
+
+    def test_names_of_the_library_are_called_on_the_spot(self):
+        for path, tree in trees():
+            names = [name for name, module in self.imports()["watchfloor." + path.stem].items() if module in LIBRARY]
+            calls = [node for node in ast.walk(tree) if isinstance(node, ast.Call)]
+            called = [node.func for node in calls if not node.keywords]
+            for node in ast.walk(tree):
+                if isinstance(node, ast.Name) and node.id in names:
+                    self.assertIn(node, called, path)
 
     def test_no_circles(self):
         imports = {module: set(names.values()) for module, names in self.imports().items()}

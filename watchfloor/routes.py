@@ -18,6 +18,11 @@ def end_of(routes, labels):
     return way(routes, labels)[-1]
 
 
+def settings_of(routes, labels):
+    """Return the settings of the route at which an alert ends."""
+    return routes[end_of(routes, labels)][2]
+
+
 def refusals(routes, labels):
     """Return for each route of the way of an alert which routes refused it there, and by which matcher."""
     through = way(routes, labels)

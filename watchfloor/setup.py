@@ -56,6 +56,14 @@ def setup(*, week, people, schedules, policies, windows=(), routes, holdbacks=()
     return made
 
 
+def copied(made):
+    """Return a Setup with the same parts, whose lists are its own."""
+    return Setup(week=made.week, people=made.people, schedules=made.schedules, policies=made.policies,
+                 windows=made.windows, routes=made.routes, holdbacks=made.holdbacks, groups=made.groups,
+                 replicas=made.replicas, pause=made.pause, down=made.down, store=made.store,
+                 lookback=made.lookback)
+
+
 def check_people(made):
     """Check the people of a setup and who of them is on call when."""
     check_named("people", made.people, is_person)
