@@ -19,7 +19,11 @@ UNDER_HEADS = {
 }
 RULES = ("record", "alert")
 # Under these head lines such a line belongs to the last line before it with one of these words.
-INNER = {("schedule", "span"): ("layer",), ("rules", "label"): RULES, ("rules", "expr"): RULES}
+INNER = {
+    ("schedule", "span"): ("layer",),
+    ("rules", "label"): ("record", "alert"),
+    ("rules", "expr"): ("record", "alert"),
+}
 ONCE_IN_TEXT = ("week", "lookback", "store", "pager")
 ONCE_UNDER = ("group", "wait", "interval", "again", "mute", "by", "equal", "expr")
 
