@@ -239,6 +239,13 @@ class PeriodTest(WatchTest):
         self.gives([(0, "ann", True), (0, "ann", True)], plan, people(), "both", 0)
         self.gives(0, delay, people(), "both", 0)
 
+    def test_odd_periods(self):
+        made = one_person(week=1999, people=PEOPLE, schedules=[("all", ((("ann",), 0, 1, ((0, 5),)),), ())])
+        self.gives(1998, policy_gap, one_person(week=1999, schedules=[("all", ((("ann",), 0, 1, ((0, 1998),)),), ())]), "page", 0)
+        self.gives(5, policy_gap, made, "page", 0)
+        whole = one_person(week=1999, schedules=[("all", ((("ann",), 0, 1, ((0, 1999),)),), ())])
+        self.gives((0, 3), worst_delay, whole, "page", 3)
+
     def test_the_week_counts_only_with_spans(self):
         self.gives(None, policy_gap, people(0, week=1999), "long", 0)
         self.gives(5, policy_gap, one_person(week=1999, people=PEOPLE, schedules=SCHEDULES, down=1,

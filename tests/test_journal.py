@@ -34,6 +34,8 @@ class LineTest(WatchTest):
         self.gives("tick 0,2,4 slow,fast,slow ann=2,bob=10", line_of, ("tick", ("slow", "fast", "slow"), (0, 2, 4), (("ann", 2), ("bob", 10))))
         self.gives("tick 1 - bob=1", line_of, ("tick", (), (1,), (("bob", 1),)))
         self.gives("tick 1 fast -", line_of, ("tick", ("fast",), (1,), ()))
+        self.gives("tick 1 - bob=1", line_of, ("tick", (), (1,), (("ann", 0), ("bob", 1))))
+        self.gives("tick 1 - -", line_of, ("tick", (), (1,), (("ann", 0),)))
 
     def test_the_store(self):
         for word in ("sync", "seal", "compact", "crash"):

@@ -105,6 +105,11 @@ class PeriodTest(WatchTest):
         self.refused(PeriodTooLong, {}, sure_limit, self.made(3, shift=667), A, 0)
         self.refused(PeriodTooLong, {}, sure_limit, self.made(10, shift=1000), A, 10 ** 6)
 
+    def test_odd_periods(self):
+        self.gives(0, sure_limit, self.made(3, shift=665), A, 0)
+        self.gives(1, sure_limit, self.made(3, week=3, shift=665, mutes=("noon",)), A, 0)
+        self.gives(1, sure_limit, self.made(1, week=1999, mutes=("noon",)), A, 0)
+
     def test_with_mutes(self):
         self.gives(1, sure_limit, self.made(2, shift=1000, mutes=("noon",)), A, 0)
         self.gives(1, sure_limit, self.made(2, week=2000, shift=8, mutes=("noon",)), A, 0)
